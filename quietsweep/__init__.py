@@ -1,0 +1,1 @@
+"""quietsweep: a collector that works beside the program."""
