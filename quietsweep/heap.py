@@ -19,6 +19,23 @@ class Thing:
         self.kind = kind
         self.fields = [NOTHING] * fields
         self.value = 0
+        # Marked from the first, so that the round that is going on doesn't take it.
+        self.marked = True
+        self.moved = NOTHING
+
+
+def alike(thing):
+    """Another thing that is as this one, but hasn't moved."""
+    other = Thing(thing.number, thing.kind, 0)
+    other.fields = list(thing.fields)
+    other.value = thing.value
+    other.marked = thing.marked
+    return other
+
+
+def words_for(fields):
+    """How many words a thing of so many fields takes."""
+    return fields + WORDS_BESIDE_FIELDS
 
 
 class Heap:
@@ -49,14 +66,54 @@ class Heap:
 
     def make(self, kind, fields):
         """The place of a new thing; NOTHING, and no number used up, if there is no room."""
-        place = self.take_room(fields + WORDS_BESIDE_FIELDS)
+        place = self.take_room(words_for(fields))
         if place != NOTHING:
             self.made += 1
             self.things[place] = Thing(self.made, kind, fields)
         return place
 
+    def move(self, place):
+        """Whether there was room to which the thing at a place has moved."""
+        thing = self.things[place]
+        target = self.take_room(words_for(len(thing.fields)))
+        if target == NOTHING:
+            return False
+        self.things[target] = alike(thing)
+        thing.moved = target
+        return True
+
+    def now(self, place):
+        """Where the thing of a place is now."""
+        if place == NOTHING or self.things[place].moved == NOTHING:
+            return place
+        return self.things[place].moved
+
     def number_at(self, place):
         """The number of the thing at a place, as it is answered."""
-        if place == NOTHING:
+        # Beside NOTHING there are the places that a dead thing's fields still hold when a sweep has emptied them.
+        thing = self.things.get(place)
+        if thing is None:
             return 0
-        return self.things[place].number
+        return thing.number
+
+    def unmoved(self):
+        """The places of all things that haven't moved, in order."""
+        return sorted([place for place in self.things if self.things[place].moved == NOTHING])
+
+    def lying_in(self, region):
+        """The places of the things that lie in a region, in order; those that have moved, too."""
+        return sorted([place for place in self.things if place // REGION_WORDS == region])
+
+    def words_lying_in(self, region):
+        """How many words the things take that lie in a region."""
+        return sum([words_for(len(self.things[place].fields)) for place in self.lying_in(region)])
+
+    def take_away(self, places):
+        """The things of these places aren't there any more."""
+        for place in places:
+            self.things.pop(place)
+
+    def take_back(self, region):
+        """Nothing of a region is given out any more, if no thing lies in it."""
+        if len(self.lying_in(region)) == 0:
+            self.given_out[region] = 0

@@ -1,27 +1,14 @@
 """The calls of threads: each is asked of a house and answers one number, below 0 if it refuses.
 
-A call asks all its questions ahead of its first change, so that a refusal leaves all as it was.
+A call asks all its questions ahead of its first change, so that a refusal leaves all as it was; only whether there
+is room is known no sooner than allocating has paid.
 """
 
 from quietsweep.heap import LAST_WORDS, NOTHING, PLAIN, WEAK
-from quietsweep.threads import NAMES, REGISTERS, THREADS
-
-OUT_OF_BOUNDS = -1
-NO_THING = -2
-NO_FIELD = -3
-NO_ROOM = -8
+from quietsweep.refusals import NO_FIELD, NO_ROOM, NO_THING, NOT_WEAK, OUT_OF_BOUNDS, no_name, no_slot
 
 MOST_FIELDS = 6
 MOST_VALUE = 1000000
-
-
-def no_slot(thread, r):
-    """Whether there is no such thread, or it has no register r."""
-    return not 1 <= thread <= THREADS or not 0 <= r < REGISTERS
-
-
-def no_name(name):
-    return not 0 <= name < NAMES
 
 
 def no_field(thing, i):
@@ -32,7 +19,7 @@ def no_field(thing, i):
 def call_make(house, thread, target, fields, kind):
     if no_slot(thread, target) or fields > MOST_FIELDS or kind not in (PLAIN, LAST_WORDS):
         return OUT_OF_BOUNDS
-    place = house.heap.make(kind, fields)
+    place = house.make(kind, fields)
     if place == NOTHING:
         return NO_ROOM
     return house.hold(thread, target, place)
@@ -43,10 +30,10 @@ def call_weak(house, thread, target, q):
         return OUT_OF_BOUNDS
     if house.thing_in(thread, q) is None:
         return NO_THING
-    place = house.heap.make(WEAK, 1)
+    place = house.make(WEAK, 1)
     if place == NOTHING:
         return NO_ROOM
-    # Ahead of the register, which may be q itself.
+    # Behind the paying, which may have moved that thing; ahead of the register, which may be q itself.
     house.heap.things[place].fields[0] = house.place_in(thread, q)
     return house.hold(thread, target, place)
 
@@ -74,7 +61,9 @@ def call_put(house, thread, q, i, r):
     refusal = field_refusal(house, thread, q, i, r)
     if refusal < 0:
         return refusal
-    house.thing_in(thread, q).fields[i] = house.place_in(thread, r)
+    thing = house.thing_in(thread, q)
+    house.collector.shade_while_marking(thing.fields[i])
+    thing.fields[i] = house.place_in(thread, r)
     return house.number_in(thread, r)
 
 
@@ -93,13 +82,13 @@ def call_drop(house, thread, target):
 def call_load(house, thread, target, name):
     if no_slot(thread, target) or no_name(name):
         return OUT_OF_BOUNDS
-    return house.hold(thread, target, house.names[name])
+    return house.hold(thread, target, house.roots.names[name])
 
 
 def call_save(house, thread, name, r):
     if no_name(name) or no_slot(thread, r):
         return OUT_OF_BOUNDS
-    house.names[name] = house.place_in(thread, r)
+    house.roots.names[name] = house.place_in(thread, r)
     return house.number_in(thread, r)
 
 
@@ -129,6 +118,26 @@ def call_read(house, thread, r):
     return thing.value
 
 
+def call_look(house, thread, target, q):
+    if no_slot(thread, target) or no_slot(thread, q):
+        return OUT_OF_BOUNDS
+    thing = house.thing_in(thread, q)
+    if thing is None:
+        return NO_THING
+    if thing.kind != WEAK:
+        return NOT_WEAK
+    house.collector.shade_while_marking(thing.fields[0])
+    return house.hold(thread, target, thing.fields[0])
+
+
+def call_words(house, thread, target):
+    if no_slot(thread, target):
+        return OUT_OF_BOUNDS
+    if len(house.roots.waiting) == 0:
+        return house.hold(thread, target, NOTHING)
+    return house.hold(thread, target, house.roots.waiting.pop(0))
+
+
 # By the call's number: how many whole numbers it has, and what answers it.
 THREAD_CALLS = (
     (4, call_make),
@@ -142,4 +151,6 @@ THREAD_CALLS = (
     (3, call_same),
     (3, call_write),
     (2, call_read),
+    (3, call_look),
+    (2, call_words),
 )

@@ -143,6 +143,51 @@ class Language(unittest.TestCase):
             self.assertEqual((given.vararg, given.kwarg, given.kwonlyargs), (None, None, []), (name, node.name))
             self.assertEqual(node.decorator_list, [], (name, node.name))
 
+    def test_no_name_is_a_method_and_a_value(self):
+        methods = {part.name for name, node in nodes(ast.ClassDef) for part in node.body
+                   if isinstance(part, ast.FunctionDef)}
+        stored = {node.attr for name, node in nodes(ast.Attribute) if isinstance(node.ctx, ast.Store)}
+        self.assertEqual(methods & stored, set())
+
+    def test_the_top_of_a_file_binds_each_name_once(self):
+        for name, tree in trees():
+            bound = []
+            for node in tree.body:
+                if isinstance(node, ast.Assign):
+                    bound += [target.id for target in node.targets]
+                    self.assertIsInstance(node.value, (ast.Constant, ast.UnaryOp, ast.Tuple), (name, node.lineno))
+                elif isinstance(node, ast.ImportFrom):
+                    bound += [alias.name for alias in node.names]
+                elif isinstance(node, (ast.FunctionDef, ast.ClassDef)):
+                    bound.append(node.name)
+                else:
+                    self.assertIsInstance(node, ast.Expr, (name, node.lineno))
+            self.assertEqual(len(bound), len(set(bound)), name)
+
+    def test_no_local_is_called_like_an_import_or_a_class(self):
+        for name, tree in trees():
+            taken = {alias.name for node in tree.body if isinstance(node, ast.ImportFrom) for alias in node.names}
+            taken |= {node.name for node in tree.body if isinstance(node, ast.ClassDef)}
+            for function in ast.walk(tree):
+                if isinstance(function, (ast.FunctionDef, ast.Lambda)):
+                    self.assertEqual(taken & set(bound_names(function)), set(), (name, function.lineno))
+
+    def test_no_two_files_draw_from_one_another(self):
+        drawn = {name[:-3]: {node.module.split(".")[1] for node in tree.body if isinstance(node, ast.ImportFrom)}
+                 for name, tree in trees()}
+        while drawn:
+            done = [name for name in drawn if not drawn[name] & set(drawn)]
+            self.assertNotEqual(done, [], drawn)
+            for name in done:
+                drawn.pop(name)
+
+    def test_what_is_walked_on_the_spot_is_not_kept(self):
+        for name, node in nodes(ast.Assign):
+            if isinstance(node.value, ast.Call):
+                called = node.value.func
+                word = called.id if isinstance(called, ast.Name) else called.attr
+                self.assertNotIn(word, ("range", "zip", "enumerate", "reversed", "items", "keys", "values", "set"))
+
     def test_is_stands_beside_none_true_and_false(self):
         for name, node in nodes(ast.Compare):
             for operator, right in zip(node.ops, node.comparators):
